@@ -1,0 +1,1 @@
+"""Groupcost: what hands cost together, and a paper beside every answer."""

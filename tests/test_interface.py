@@ -1,0 +1,33 @@
+"""The interface: names and arguments as the document has them."""
+
+import importlib
+import inspect
+import unittest
+
+INTERFACE = {
+    "masks": {
+        "hands_in": "group", "many_in": "group", "group_of": "hands", "within": "one, other", "groups_in": "group",
+    },
+    "tables": {
+        "table_of": "numbers", "hand_count": "table", "everybody": "table", "row_gives": "row, group",
+        "added": "one, other", "scaled": "many, table", "row_table": "row", "less_row": "table, row",
+        "mirror": "table", "kept_to": "table, group", "behind": "table, group", "by_numbers": "table, order",
+    },
+    "falling": {
+        "break_of": "table", "rise_break": "table", "falls": "table", "rises": "table",
+        "two_break": "table, one, other", "flat_row": "table",
+    },
+}
+
+
+class InterfaceTest(unittest.TestCase):
+    def test_names_and_arguments(self):
+        for module, functions in INTERFACE.items():
+            for name, arguments in functions.items():
+                with self.subTest(f"{module}.{name}"):
+                    function = getattr(importlib.import_module(f"groupcost.{module}"), name)
+                    self.assertEqual(", ".join(map(str, inspect.signature(function).parameters.values())), arguments)
+
+
+if __name__ == "__main__":
+    unittest.main()
