@@ -1,5 +1,6 @@
 """Tables that fall, that rise, and that are flat."""
 
+from groupcost.errors import NotFalling
 from groupcost.masks import hands_in
 from groupcost.tables import everybody, hand_count, row_table, scaled
 
@@ -37,6 +38,12 @@ def rise_break(table):
 def falls(table):
     """Whether a table falls."""
     return break_of(table) is None
+
+
+def must_fall(table):
+    """Refuses a table that does not fall."""
+    if not falls(table):
+        raise NotFalling("the table does not fall")
 
 
 def rises(table):

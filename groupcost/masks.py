@@ -31,3 +31,12 @@ def groups_in(group):
         # Each hand's bit is worth more than all bits ahead of it together, so the masks stay in order.
         groups = groups + [smaller | (1 << hand) for smaller in groups]
     return groups
+
+
+def shared_with(groups, hand):
+    """The hands that all those of some groups have in common that have the hand, or None where none has it."""
+    shared = None
+    for group in groups:
+        if within(1 << hand, group):
+            shared = group if shared is None else shared & group
+    return shared

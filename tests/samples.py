@@ -1,5 +1,6 @@
 """Tables and groups for the tests, and the document's words said anew over sets of hands."""
 
+import itertools
 import random
 
 HUGE = int("7" * 200)
@@ -11,6 +12,10 @@ def set_of(mask):
 
 def mask_of(hands):
     return sum(2 ** hand for hand in set(hands))
+
+
+def count_of(table):
+    return len(set_of(len(table) - 1))
 
 
 def sets_of(count):
@@ -62,6 +67,31 @@ def nudged(table, seed):
     return changed
 
 
+def bent_table(count, seed):
+    """A table that falls, its costs changed here and there as long as it falls."""
+    source = random.Random(f"bent {count} {seed}")
+    table = falling_table(count, seed)
+    for _ in range(12):
+        group, change = source.randrange(1, 2 ** count), source.choice((-3, -2, -1, 1, 2, 3))
+        changed = table[:group] + [table[group] + change] + table[group + 1:]
+        if told_break(changed) is None:
+            table = changed
+    return table
+
+
+def falling_tables():
+    """Tables of one to six hands that fall."""
+    tables = []
+    for count in range(1, 7):
+        for seed in range(6 if count < 5 else 2):
+            tables.append(falling_table(count, seed))
+            tables.append(bent_table(count, seed))
+            tables.append(as_table(count, lambda hands: 0 if not hands else 5))
+            tables.append(as_table(count, lambda hands: len(hands) * (2 * count + seed - len(hands)) - 9 * seed *
+                                   (len(hands) == count)))
+    return tables
+
+
 def many_tables():
     """Tables of one to six hands that fall, rise, are flat and are none of these."""
     tables = []
@@ -76,6 +106,43 @@ def many_tables():
             row = some_row(count, seed)
             tables.append(as_table(count, lambda hands: sum(row[hand] for hand in hands)))
     return tables
+
+
+def gives(row, hands):
+    """What a row gives a set of hands."""
+    return sum(row[hand] for hand in hands)
+
+
+def told_under(table, shares):
+    """[0.2] word by word."""
+    return all(gives(shares, hands) <= cost for hands, cost in as_costs(table).items())
+
+
+def lowered_under(table, row):
+    """The row less as much for each hand as puts it under the table."""
+    most = max(gives(row, hands) - cost for hands, cost in as_costs(table).items())
+    return [number - most for number in row]
+
+
+def told_base(table, shares):
+    return told_under(table, shares) and sum(shares) == table[-1]
+
+
+def orders_of(count):
+    return [list(order) for order in itertools.permutations(range(count))]
+
+
+def rows_around(count, low, high):
+    """All rows with numbers from low to high."""
+    return [list(row) for row in itertools.product(range(low, high + 1), repeat=count)]
+
+
+def bases_of(table):
+    """All bases of whole numbers: no share lies outside these ends, the last one is what is left."""
+    count = count_of(table)
+    ends = [range(table[-1] - table[len(table) - 1 - 2 ** hand], table[2 ** hand] + 1) for hand in range(count)]
+    rows = [list(row) + [table[-1] - sum(row)] for row in itertools.product(*ends[:-1])]
+    return [row for row in rows if told_under(table, row)]
 
 
 def told_falls(table):
@@ -93,7 +160,7 @@ def told_rises(table):
 def told_break(table):
     """[2.2] word by word: the least of all breaks, or None."""
     costs = as_costs(table)
-    count = max(len(hands) for hands in costs)
+    count = count_of(table)
     breaks = []
     for hands in costs:
         for i in range(count):

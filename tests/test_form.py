@@ -78,6 +78,18 @@ class FormTest(unittest.TestCase):
                     self.assertIn(drawn_name.name, defined[node.module], f"L16 {module}")
                     self.assertNotIn(drawn_name.name, defined[module], f"L15 {module}")
 
+    def test_no_two_files_draw_from_one_another(self):
+        drawn = {}
+        for path, _, tree in self.each():
+            drawn[path.stem] = {
+                node.module.split(".")[-1] for node in ast.walk(tree) if isinstance(node, ast.ImportFrom)
+            }
+        while drawn:
+            # What draws from none of the rest is done with; in a circle nothing ever is.
+            done = [module for module, others in drawn.items() if not others & set(drawn)]
+            self.assertTrue(done, f"L16 {sorted(drawn)}")
+            drawn = {module: others for module, others in drawn.items() if module not in done}
+
     def test_kinds_of_statements_and_expressions(self):
         for path, _, tree in self.each():
             for node in ast.walk(tree):
@@ -86,6 +98,12 @@ class FormTest(unittest.TestCase):
                 if isinstance(node, ast.ListComp):
                     self.assertEqual(len(node.generators), 1, f"L7 {place}")
                     self.assertLessEqual(len(node.generators[0].ifs), 1, f"L7 {place}")
+                if isinstance(node, ast.Assign):
+                    self.assertEqual(len(node.targets), 1, f"L6 {place}")
+                    self.assertNotIsInstance(node.targets[0], (ast.Tuple, ast.List), f"L6 {place}")
+                if isinstance(node, ast.Compare) and isinstance(node.ops[0], (ast.Is, ast.IsNot)):
+                    self.assertIsInstance(node.comparators[0], ast.Constant, f"L20 {place}")
+                    self.assertIn(node.comparators[0].value, (None, True, False), f"L20 {place}")
                 if isinstance(node, ast.FunctionDef):
                     self.assertFalse(node.decorator_list or node.args.vararg or node.args.kwarg, f"L4 {place}")
                 if isinstance(node, ast.Constant):

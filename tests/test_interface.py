@@ -17,6 +17,20 @@ INTERFACE = {
         "break_of": "table", "rise_break": "table", "falls": "table", "rises": "table",
         "two_break": "table, one, other", "flat_row": "table",
     },
+    "makers": {
+        "from_covers": "hands, covers", "from_cuts": "hands, cuts", "from_steps": "steps", "from_lines": "lines",
+        "bounded": "table, row",
+    },
+    "shares": {
+        "over": "table, shares", "is_under": "table, shares", "is_base": "table, shares",
+        "room_of": "table, shares, hand", "way_room": "table, shares, grows, falls",
+        "full_groups": "table, shares", "core_of": "table, shares, hand",
+    },
+    "orders": {"by_order": "table, order", "raised": "table, shares, bounds, order=None"},
+    "prices": {
+        "price_order": "prices", "price_chain": "prices", "worth_at": "table, prices", "weight_of": "shares, prices",
+        "best_base": "table, prices", "is_best": "table, prices, shares", "break_prices": "table",
+    },
 }
 
 

@@ -4,7 +4,11 @@ import copy
 import unittest
 
 from groupcost.falling import break_of, falls, flat_row, rise_break, rises, two_break
+from groupcost.makers import bounded, from_covers, from_cuts, from_lines, from_steps
 from groupcost.masks import group_of, groups_in, hands_in, many_in, within
+from groupcost.orders import by_order, raised
+from groupcost.prices import best_base, break_prices, is_best, price_chain, price_order, weight_of, worth_at
+from groupcost.shares import core_of, full_groups, is_base, is_under, over, room_of, way_room
 from groupcost.tables import (
     added, behind, by_numbers, everybody, hand_count, kept_to, less_row, mirror, row_gives, row_table, scaled, table_of,
 )
@@ -13,71 +17,140 @@ THREE = [0, 3, 5, 7, 4, 6, 8, 9]
 RISING = [0, 1, 3, 5, 2, 4, 6, 9]
 NOUGHTS = [0] * 8
 FLAT = [0, 4, -7, -3, 2, 6, -5, -1]
+BASE = [3, 4, 2]
 
-LIST_CALLS = [
-    (hands_in, [0]), (hands_in, [5]), (hands_in, [63]),
-    (groups_in, [0]), (groups_in, [5]), (groups_in, [63]),
-    (table_of, [THREE]), (table_of, [[0, 0]]),
-    (added, [THREE, RISING]), (added, [THREE, NOUGHTS]), (added, [NOUGHTS, THREE]), (added, [NOUGHTS, NOUGHTS]),
-    (scaled, [1, THREE]), (scaled, [0, THREE]), (scaled, [-1, THREE]),
-    (row_table, [[4]]), (row_table, [[4, -7, 2]]), (row_table, [[0, 0, 0]]),
-    (less_row, [THREE, [0, 0, 0]]), (less_row, [THREE, [1, -2, 3]]),
-    (mirror, [THREE]), (mirror, [FLAT]), (mirror, [[0, 5]]),
-    (kept_to, [THREE, 7]), (kept_to, [THREE, 5]), (kept_to, [[0, 5], 1]),
-    (behind, [THREE, 0]), (behind, [THREE, 5]), (behind, [[0, 5], 0]),
-    (by_numbers, [THREE, [0, 1, 2]]), (by_numbers, [THREE, [2, 0, 1]]), (by_numbers, [[0, 5], [0]]),
-    (flat_row, [FLAT]), (flat_row, [[0, 5]]),
-]
+# A kind is int, bool or None, a list of the one kind of what stands in it, or a tuple of the kinds of its places.
+ROW = [int]
+PAIR = (int, int)
+TRIPLE = (int, int, int)
 
-NUMBER_CALLS = [
-    (many_in, [0]), (many_in, [63]), (group_of, [[]]), (group_of, [[2, 0, 2]]),
-    (hand_count, [[0, 0]]), (hand_count, [THREE]), (everybody, [[0, 0]]), (everybody, [THREE]),
-    (row_gives, [[4, -7, 2], 0]), (row_gives, [[4, -7, 2], 1]), (row_gives, [[4, -7, 2], 7]),
-]
+CALLS = {
+    hands_in: [([0], ROW), ([5], ROW), ([63], ROW)],
+    many_in: [([0], int), ([63], int)],
+    group_of: [([[]], int), ([[2, 0, 2]], int)],
+    within: [([1, 3], bool), ([3, 1], bool), ([0, 0], bool)],
+    groups_in: [([0], ROW), ([5], ROW), ([63], ROW)],
+    table_of: [([THREE], ROW), ([[0, 0]], ROW)],
+    hand_count: [([[0, 0]], int), ([THREE], int)],
+    everybody: [([[0, 0]], int), ([THREE], int)],
+    row_gives: [([[4, -7, 2], 0], int), ([[4, -7, 2], 1], int), ([[4, -7, 2], 7], int)],
+    added: [([THREE, RISING], ROW), ([THREE, NOUGHTS], ROW), ([NOUGHTS, THREE], ROW), ([NOUGHTS, NOUGHTS], ROW)],
+    scaled: [([1, THREE], ROW), ([0, THREE], ROW), ([-1, THREE], ROW)],
+    row_table: [([[4]], ROW), ([[4, -7, 2]], ROW), ([[0, 0, 0]], ROW)],
+    less_row: [([THREE, [0, 0, 0]], ROW), ([THREE, [1, -2, 3]], ROW)],
+    mirror: [([THREE], ROW), ([FLAT], ROW), ([[0, 5]], ROW)],
+    kept_to: [([THREE, 7], ROW), ([THREE, 5], ROW), ([[0, 5], 1], ROW)],
+    behind: [([THREE, 0], ROW), ([THREE, 5], ROW), ([[0, 5], 0], ROW)],
+    by_numbers: [([THREE, [0, 1, 2]], ROW), ([THREE, [2, 0, 1]], ROW), ([[0, 5], [0]], ROW)],
+    break_of: [([RISING], TRIPLE), ([THREE], None)],
+    rise_break: [([THREE], TRIPLE), ([RISING], None)],
+    falls: [([THREE], bool), ([RISING], bool)],
+    rises: [([THREE], bool), ([RISING], bool)],
+    two_break: [([RISING, 1, 2], bool), ([THREE, 1, 2], bool)],
+    flat_row: [([FLAT], ROW), ([[0, 5]], ROW), ([THREE], None)],
+    from_covers: [([3, [(2, 5), (1, 0), (4, 7)]], ROW), ([2, []], ROW), ([1, [(0, 1)]], ROW)],
+    from_cuts: [([3, [(0, 1, 4), (2, 0, 1)]], ROW), ([2, []], ROW), ([1, []], ROW)],
+    from_steps: [([[5]], ROW), ([[5, 3, -2]], ROW), ([[0, 0]], ROW)],
+    from_lines: [([[[1, 2], [2, 4], [0, 0]]], ROW), ([[[]]], ROW), ([[[0]]], ROW)],
+    bounded: [([THREE, [50, 50, 50]], ROW), ([THREE, [-9, 2, 3]], ROW), ([[0, 5], [9]], ROW)],
+    over: [([THREE, BASE], PAIR), ([THREE, [9, 9, 9]], PAIR), ([[0, 5], [5]], PAIR)],
+    is_under: [([THREE, BASE], bool), ([THREE, [9, 9, 9]], bool)],
+    is_base: [([THREE, BASE], bool), ([THREE, [0, 0, 0]], bool), ([THREE, [9, 9, 9]], bool)],
+    room_of: [([THREE, BASE, 1], int), ([THREE, [0, 0, 0], 2], int), ([THREE, [9, 9, 9], 0], int)],
+    way_room: [([THREE, BASE, 1, 0], int), ([THREE, [0, 0, 0], 2, 1], int), ([THREE, [9, 9, 9], 0, 2], int)],
+    full_groups: [([THREE, BASE], ROW), ([THREE, [0, 0, 0]], ROW), ([[0, 5], [5]], ROW)],
+    core_of: [([THREE, BASE, 1], int), ([THREE, [0, 0, 0], 1], None)],
+    by_order: [([THREE, [2, 0, 1]], ROW), ([[0, 5], [0]], ROW), ([[0, 0, 1, 1], [0, 1]], ROW)],
+    raised: [
+        ([THREE, [0, 0, 0], [9, 2, 9]], ROW), ([THREE, [0, 0, 0], [9, 2, 9], [2, 1, 0]], ROW),
+        ([THREE, BASE, [9, 9, 9], None], ROW), ([THREE, BASE, BASE], ROW),
+        ([[0, 0, 1, 1], [0, 1], [0, 1], [0, 1]], ROW),
+    ],
+    price_order: [([[5]], ROW), ([[0, -1, -2]], ROW), ([[1, 5, 1]], ROW)],
+    price_chain: [([[5]], [PAIR]), ([[4, 4]], [PAIR]), ([[1, 5, 7]], [PAIR])],
+    worth_at: [([THREE, [1, 5, 7]], int), ([THREE, [0, 0, 0]], int)],
+    weight_of: [([BASE, [1, 5, 7]], int), ([[0], [0]], int)],
+    best_base: [([THREE, [1, 5, 7]], ROW), ([[0, 5], [5]], ROW)],
+    is_best: [([THREE, [7, 5, 1], BASE], bool), ([THREE, [1, 5, 7], BASE], bool), ([THREE, BASE, [0, 0, 0]], bool)],
+    break_prices: [([RISING], (ROW, ROW)), ([[0, 1, 1, 3]], (ROW, ROW)), ([THREE], None)],
+}
 
-TRUTH_CALLS = [
-    (within, [1, 3], True), (within, [3, 1], False), (within, [0, 0], True),
-    (falls, [THREE], True), (falls, [RISING], False), (rises, [THREE], False), (rises, [RISING], True),
-    (two_break, [RISING, 1, 2], True), (two_break, [THREE, 1, 2], False),
-]
 
-BREAK_CALLS = [(break_of, [RISING]), (rise_break, [THREE])]
-NONE_CALLS = [(break_of, [THREE]), (rise_break, [RISING]), (flat_row, [THREE])]
-
-
-def every_call():
-    return LIST_CALLS + NUMBER_CALLS + [call[:2] for call in TRUTH_CALLS] + BREAK_CALLS + NONE_CALLS
+def fits(kind, value):
+    """Whether a value is of a kind; True and False are no numbers."""
+    if kind is None:
+        return value is None
+    if isinstance(kind, list):
+        return type(value) is list and all(fits(kind[0], part) for part in value)
+    if isinstance(kind, tuple):
+        return type(value) is tuple and len(value) == len(kind) and all(map(fits, kind, value))
+    return type(value) is kind
 
 
-class HandedInTest(unittest.TestCase):
+def lists_in(value):
+    """All lists of a value, itself and those within it."""
+    found = [value] if isinstance(value, list) else []
+    if isinstance(value, (list, tuple)):
+        for part in value:
+            found += lists_in(part)
+    return found
+
+
+def scramble(value):
+    """Changes all lists of a value."""
+    for found in lists_in(value):
+        found[:] = [99] * (len(found) + 1)
+
+
+class OwnTest(unittest.TestCase):
+    def for_each_call(self, check):
+        for function, calls in CALLS.items():
+            for handed, kind in calls:
+                with self.subTest(function=function.__name__, handed=handed):
+                    check(function, [copy.deepcopy(part) for part in handed], kind)
+
+    def test_kinds(self):
+        def check(function, handed, kind):
+            told = function(*handed)
+            self.assertTrue(fits(kind, told), told)
+
+        self.for_each_call(check)
+
     def test_nothing_handed_in_is_changed(self):
-        for function, handed in every_call():
+        def check(function, handed, kind):
             before = copy.deepcopy(handed)
             function(*handed)
-            self.assertEqual(handed, before, function.__name__)
+            self.assertEqual(handed, before)
 
-    def test_no_list_told_is_one_that_was_handed_in(self):
-        for function, handed in LIST_CALLS:
-            told = function(*handed)
-            for given in handed:
-                self.assertIsNot(told, given, function.__name__)
+        self.for_each_call(check)
 
-    def test_a_change_of_what_was_told_changes_nothing_handed_in(self):
-        for function, handed in LIST_CALLS:
+    def test_no_list_told_is_one_handed_in_or_told_before_and_no_two_are_one(self):
+        def check(function, handed, kind):
+            before = function(*handed)
+            lists = lists_in(handed) + lists_in(before) + lists_in(function(*handed))
+            self.assertEqual(len({id(found) for found in lists}), len(lists))
+
+        self.for_each_call(check)
+
+    def test_a_change_of_what_was_told_changes_nothing_handed_in_and_nothing_told_later(self):
+        def check(function, handed, kind):
             before = copy.deepcopy(handed)
             told = function(*handed)
-            told[:] = [99] * (len(told) + 1)
-            self.assertEqual(handed, before, function.__name__)
+            first = copy.deepcopy(told)
+            scramble(told)
+            self.assertEqual(handed, before)
+            self.assertEqual(function(*handed), first)
+
+        self.for_each_call(check)
 
     def test_a_change_of_what_was_handed_in_changes_nothing_told(self):
-        for function, handed in LIST_CALLS:
-            mine = copy.deepcopy(handed)
-            told = function(*mine)
-            before = list(told)
-            for given in mine:
-                if isinstance(given, list):
-                    given[:] = [77] * len(given)
-            self.assertEqual(told, before, function.__name__)
+        def check(function, handed, kind):
+            told = function(*handed)
+            first = copy.deepcopy(told)
+            scramble(handed)
+            self.assertEqual(told, first)
+
+        self.for_each_call(check)
 
     def test_nothing_handed_in_is_kept(self):
         # The same list handed in again with other numbers has to be read anew.
@@ -86,48 +159,6 @@ class HandedInTest(unittest.TestCase):
         table[7] = 40
         self.assertEqual(break_of(table), (1, 1, 2))
         self.assertEqual(mirror(table)[7], 40)
-
-
-class ToldTest(unittest.TestCase):
-    def test_what_was_told_and_changed_is_told_alike_again(self):
-        for function, handed in LIST_CALLS:
-            told = function(*handed)
-            before = list(told)
-            told.append(99)
-            told[0] = 98
-            again = function(*handed)
-            self.assertEqual(again, before, function.__name__)
-            self.assertIsNot(again, told, function.__name__)
-
-    def test_all_is_told_alike_again(self):
-        for function, handed in every_call():
-            self.assertEqual(function(*handed), function(*handed), function.__name__)
-
-
-class KindTest(unittest.TestCase):
-    def test_lists_are_lists_of_whole_numbers(self):
-        for function, handed in LIST_CALLS:
-            told = function(*handed)
-            self.assertIs(type(told), list, function.__name__)
-            self.assertEqual({type(number) for number in told} - {int}, set(), function.__name__)
-
-    def test_numbers_are_whole_numbers(self):
-        for function, handed in NUMBER_CALLS:
-            self.assertIs(type(function(*handed)), int, function.__name__)
-
-    def test_true_and_false(self):
-        for function, handed, expected in TRUTH_CALLS:
-            self.assertIs(function(*handed), expected, function.__name__)
-
-    def test_a_break_is_a_triple(self):
-        for function, handed in BREAK_CALLS:
-            told = function(*handed)
-            self.assertIs(type(told), tuple, function.__name__)
-            self.assertEqual([type(number) for number in told], [int, int, int], function.__name__)
-
-    def test_none(self):
-        for function, handed in NONE_CALLS:
-            self.assertIsNone(function(*handed), function.__name__)
 
 
 if __name__ == "__main__":
