@@ -30,10 +30,15 @@ def row_gives(row, group):
     return sum([row[hand] for hand in hands_in(group)])
 
 
-def added(one, other):
-    """Two tables of as many hands, added group by group."""
+def must_be_alike(one, other):
+    """Refuses two tables that have not as many hands."""
     if len(one) != len(other):
         raise Unlike("the two tables have not as many hands")
+
+
+def added(one, other):
+    """Two tables of as many hands, added group by group."""
+    must_be_alike(one, other)
     return [cost + more for cost, more in zip(one, other)]
 
 

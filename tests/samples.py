@@ -79,6 +79,14 @@ def bent_table(count, seed):
     return table
 
 
+def long_table(count, seed):
+    """A table that falls whose numbers are some two hundred figures long, of either sign."""
+    source = random.Random(f"long {count} {seed}")
+    row = [source.randint(-HUGE, HUGE) // 64 for _ in range(count)]
+    covers = [(source.randint(0, HUGE) // 64, set_of(source.randrange(2 ** count))) for _ in range(8)]
+    return as_table(count, lambda hands: gives(row, hands) + sum(weight for weight, cover in covers if cover & hands))
+
+
 def falling_tables():
     """Tables of one to six hands that fall."""
     tables = []

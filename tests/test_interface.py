@@ -31,6 +31,13 @@ INTERFACE = {
         "price_order": "prices", "price_chain": "prices", "worth_at": "table, prices", "weight_of": "shares, prices",
         "best_base": "table, prices", "is_best": "table, prices, shares", "break_prices": "table",
     },
+    "cheapest": {
+        "cost_with": "table, prices, group", "least_cost": "table, prices", "cheapest_groups": "table, prices",
+        "cheapest": "table, prices", "entry_of": "table, prices, hand",
+    },
+    "rings": {"is_ring": "groups", "ring_of": "groups, hands", "ring_groups": "ring"},
+    "parting": {"parting": "one, other", "fixed_hand": "table, hand, share", "common": "one, other"},
+    "between": {"between": "low, high", "split_base": "one, other, shares"},
 }
 
 

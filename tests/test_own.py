@@ -3,11 +3,15 @@
 import copy
 import unittest
 
+from groupcost.between import between, split_base
+from groupcost.cheapest import cheapest, cheapest_groups, cost_with, entry_of, least_cost
 from groupcost.falling import break_of, falls, flat_row, rise_break, rises, two_break
 from groupcost.makers import bounded, from_covers, from_cuts, from_lines, from_steps
 from groupcost.masks import group_of, groups_in, hands_in, many_in, within
 from groupcost.orders import by_order, raised
+from groupcost.parting import common, fixed_hand, parting
 from groupcost.prices import best_base, break_prices, is_best, price_chain, price_order, weight_of, worth_at
+from groupcost.rings import is_ring, ring_groups, ring_of
 from groupcost.shares import core_of, full_groups, is_base, is_under, over, room_of, way_room
 from groupcost.tables import (
     added, behind, by_numbers, everybody, hand_count, kept_to, less_row, mirror, row_gives, row_table, scaled, table_of,
@@ -73,6 +77,31 @@ CALLS = {
     best_base: [([THREE, [1, 5, 7]], ROW), ([[0, 5], [5]], ROW)],
     is_best: [([THREE, [7, 5, 1], BASE], bool), ([THREE, [1, 5, 7], BASE], bool), ([THREE, BASE, [0, 0, 0]], bool)],
     break_prices: [([RISING], (ROW, ROW)), ([[0, 1, 1, 3]], (ROW, ROW)), ([THREE], None)],
+    cost_with: [([THREE, [4, 1, -2], 5], int), ([[0, 5], [3], 0], int)],
+    least_cost: [([THREE, [4, 1, -2]], int), ([RISING, [0, 0, 0]], int)],
+    cheapest_groups: [([THREE, [4, 1, -2]], ROW), ([FLAT, [4, -7, 2]], ROW), ([[0, 5], [9]], ROW)],
+    cheapest: [
+        ([THREE, [4, 1, -2]], (int, int, ROW)), ([THREE, [0, 0, 0]], (int, int, ROW)),
+        ([FLAT, [4, -7, 2]], (int, int, ROW)), ([[0, 5], [3]], (int, int, ROW)),
+    ],
+    entry_of: [([THREE, [4, 1, -2], 1], int), ([[0, 5], [3], 0], int)],
+    is_ring: [([[0, 1, 3]], bool), ([[1, 2]], bool), ([[]], bool)],
+    ring_of: [([[0, 1, 2, 3], 2], (int, int, ROW)), ([[1, 2], 2], (int, int, ROW)), ([[0], 1], (int, int, [None]))],
+    ring_groups: [([(0, 3, [1, 2])], ROW), ([(1, 1, [1, None])], ROW)],
+    parting: [([THREE, FLAT], PAIR), ([[0, 5], [0, 3]], PAIR), ([THREE, RISING], PAIR)],
+    fixed_hand: [([THREE, 1, 5], ROW), ([THREE, 0, -9], ROW), ([[0, 5, 6, 8], 1, 6], ROW)],
+    common: [
+        ([THREE, FLAT], (ROW, int)), ([THREE, THREE], (ROW, int)), ([FLAT, NOUGHTS], (ROW, int)),
+        ([[0, 5], [0, 3]], (ROW, int)),
+    ],
+    between: [
+        ([RISING, THREE], (str, ROW)), ([FLAT, FLAT], (str, ROW)), ([RISING, FLAT], (str, int)),
+        ([[0, 5], [0, 7]], (str, ROW)),
+    ],
+    split_base: [
+        ([THREE, FLAT, [7, -3, 4]], (ROW, ROW)), ([THREE, NOUGHTS, BASE], (ROW, ROW)),
+        ([NOUGHTS, THREE, BASE], (ROW, ROW)), ([NOUGHTS, NOUGHTS, [0, 0, 0]], (ROW, ROW)),
+    ],
 }
 
 
