@@ -38,6 +38,18 @@ INTERFACE = {
     "rings": {"is_ring": "groups", "ring_of": "groups, hands", "ring_groups": "ring"},
     "parting": {"parting": "one, other", "fixed_hand": "table, hand, share", "common": "one, other"},
     "between": {"between": "low, high", "split_base": "one, other, shares"},
+    "fractions": {
+        "fraction": "top, bottom", "fraction_less": "one, other", "fraction_sum": "one, other",
+        "fraction_times": "many, one",
+    },
+    "fairest": {
+        "density": "table, weights, group", "fair_steps": "table, weights=None", "fairest": "table, weights=None",
+        "shows_fairest": "table, weights, shares, steps",
+    },
+    "mixes": {
+        "mix_row": "table, mix", "mix_size": "mix", "is_mix": "table, shares, mix", "mixed": "table, shares",
+    },
+    "means": {"all_orders": "hands", "mean_row": "table"},
 }
 
 

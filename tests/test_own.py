@@ -5,9 +5,13 @@ import unittest
 
 from groupcost.between import between, split_base
 from groupcost.cheapest import cheapest, cheapest_groups, cost_with, entry_of, least_cost
+from groupcost.fairest import density, fair_steps, fairest, shows_fairest
 from groupcost.falling import break_of, falls, flat_row, rise_break, rises, two_break
+from groupcost.fractions import fraction, fraction_less, fraction_sum, fraction_times
 from groupcost.makers import bounded, from_covers, from_cuts, from_lines, from_steps
 from groupcost.masks import group_of, groups_in, hands_in, many_in, within
+from groupcost.means import all_orders, mean_row
+from groupcost.mixes import is_mix, mix_row, mix_size, mixed
 from groupcost.orders import by_order, raised
 from groupcost.parting import common, fixed_hand, parting
 from groupcost.prices import best_base, break_prices, is_best, price_chain, price_order, weight_of, worth_at
@@ -22,11 +26,14 @@ RISING = [0, 1, 3, 5, 2, 4, 6, 9]
 NOUGHTS = [0] * 8
 FLAT = [0, 4, -7, -3, 2, 6, -5, -1]
 BASE = [3, 4, 2]
+FAIR = [(3, 1), (3, 1), (3, 1)]
 
 # A kind is int, bool or None, a list of the one kind of what stands in it, or a tuple of the kinds of its places.
 ROW = [int]
 PAIR = (int, int)
 TRIPLE = (int, int, int)
+STEPS = [(int, PAIR)]
+MIX = [(ROW, int)]
 
 CALLS = {
     hands_in: [([0], ROW), ([5], ROW), ([63], ROW)],
@@ -102,6 +109,31 @@ CALLS = {
         ([THREE, FLAT, [7, -3, 4]], (ROW, ROW)), ([THREE, NOUGHTS, BASE], (ROW, ROW)),
         ([NOUGHTS, THREE, BASE], (ROW, ROW)), ([NOUGHTS, NOUGHTS, [0, 0, 0]], (ROW, ROW)),
     ],
+    fraction: [([6, -4], PAIR), ([0, 5], PAIR), ([3, 2], PAIR)],
+    fraction_less: [([(1, 2), (1, 3)], bool), ([(1, 3), (1, 2)], bool), ([(1, 2), (1, 2)], bool)],
+    fraction_sum: [([(1, 2), (-1, 2)], PAIR), ([(1, 2), (0, 1)], PAIR), ([(1, 2), (1, 3)], PAIR)],
+    fraction_times: [([0, (1, 2)], PAIR), ([1, (1, 2)], PAIR), ([-4, (1, 2)], PAIR)],
+    density: [([THREE, [2, 4, 1], 7], PAIR), ([THREE, [1, 1, 1], 6], PAIR), ([[0, 5], [5], 1], PAIR)],
+    fair_steps: [
+        ([THREE], STEPS), ([THREE, None], STEPS), ([THREE, [2, 4, 1]], STEPS), ([FLAT, [1, 1, 1]], STEPS),
+        ([[0, 5], [5]], STEPS),
+    ],
+    fairest: [
+        ([THREE], [PAIR]), ([THREE, None], [PAIR]), ([THREE, [2, 4, 1]], [PAIR]), ([FLAT, [1, 1, 1]], [PAIR]),
+        ([[0, 5], [5]], [PAIR]),
+    ],
+    shows_fairest: [
+        ([THREE, [1, 1, 1], FAIR, [(7, (3, 1))]], bool), ([THREE, [2, 1, 1], FAIR, [(7, (3, 1))]], bool),
+        ([THREE, [1, 1, 1], FAIR, []], bool),
+    ],
+    mix_row: [([THREE, []], ROW), ([THREE, [([0, 1, 2], 1)]], ROW), ([THREE, [([0, 1, 2], 1), ([2, 1, 0], 5)]], ROW)],
+    mix_size: [([[]], int), ([[([0, 1, 2], 1), ([2, 1, 0], 5)]], int)],
+    is_mix: [
+        ([THREE, BASE, [([0, 1, 2], 4)]], bool), ([THREE, BASE, [([0, 1, 2], 0)]], bool), ([THREE, BASE, []], bool),
+    ],
+    mixed: [([THREE, BASE], MIX), ([THREE, [3, 3, 3]], MIX), ([[0, 5], [5]], MIX), ([NOUGHTS, [0, 0, 0]], MIX)],
+    all_orders: [([1], [ROW]), ([3], [ROW]), ([6], [ROW])],
+    mean_row: [([THREE], ROW), ([RISING], ROW), ([[0, 5]], ROW)],
 }
 
 
