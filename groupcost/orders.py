@@ -1,7 +1,7 @@
 """Shares by an order of the hands: taken in turn, and raised in turn."""
 
 from groupcost.errors import NotUnder
-from groupcost.shares import is_under, room_of
+from groupcost.shares import is_under, keeps_to, room_of
 from groupcost.tables import hand_count
 
 
@@ -20,7 +20,7 @@ def check_raisable(table, shares, bounds):
     """Refuses shares that are not under a table, or above a bound."""
     if not is_under(table, shares):
         raise NotUnder("the shares give a group more than it costs")
-    if any([share > bound for share, bound in zip(shares, bounds)]):
+    if not keeps_to(shares, bounds):
         raise NotUnder("a share is above its bound")
 
 

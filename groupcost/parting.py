@@ -6,11 +6,15 @@ from groupcost.masks import groups_in
 from groupcost.tables import everybody, kept_to, must_be_alike
 
 
+def parting_cost(one, other, group):
+    """What it costs where a group works by the one table and the others by the other one."""
+    return one[group] + other[everybody(one) ^ group]
+
+
 def parting(one, other):
     """The first group by masks for which a parting costs least, and what it costs."""
     must_be_alike(one, other)
-    whole = everybody(one)
-    costs = [one[group] + other[whole ^ group] for group in range(len(one))]
+    costs = [parting_cost(one, other, group) for group in range(len(one))]
     least = min(costs)
     return (costs.index(least), least)
 

@@ -22,6 +22,11 @@ def is_base(table, shares):
     return is_under(table, shares) and row_gives(shares, whole) == table[whole]
 
 
+def keeps_to(shares, bounds):
+    """Whether no hand's share is above its bound."""
+    return all([share <= bound for share, bound in zip(shares, bounds)])
+
+
 def room_of(table, shares, hand):
     """The least that is left of what a group with the hand costs."""
     left = less_row(table, shares)

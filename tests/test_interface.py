@@ -50,6 +50,19 @@ INTERFACE = {
         "mix_row": "table, mix", "mix_size": "mix", "is_mix": "table, shares, mix", "mixed": "table, shares",
     },
     "means": {"all_orders": "hands", "mean_row": "table"},
+    "papers": {
+        "shows_cheapest": "table, prices, group, cost, shares", "shows_best": "table, prices, number, shares",
+        "shows_common": "one, other, number, shares, group", "shows_between": "low, high, shares",
+        "shows_bar": "low, high, group", "made_for": "hands, paper",
+    },
+    "examiner": {"answered": "ask", "shown": "ask, answer, paper"},
+    "reading": {
+        "read_page": "text", "number_in": "word, figures", "table_named": "page, name", "ask_of": "page, row",
+    },
+    "report": {
+        "answer_text": "page, ask, answer", "paper_text": "page, paper", "read_answer": "page, ask, row",
+        "read_paper": "page, row", "report": "text", "judged": "text, rows",
+    },
 }
 
 
@@ -60,6 +73,12 @@ class InterfaceTest(unittest.TestCase):
                 with self.subTest(f"{module}.{name}"):
                     function = getattr(importlib.import_module(f"groupcost.{module}"), name)
                     self.assertEqual(", ".join(map(str, inspect.signature(function).parameters.values())), arguments)
+
+    def test_page(self):
+        page = importlib.import_module("groupcost.reading").read_page("hands a\ntable t\nask falls t")
+        self.assertEqual(sorted(vars(page)), ["asks", "names", "tables"])
+        for value in vars(page).values():
+            self.assertIs(type(value), list)
 
 
 if __name__ == "__main__":

@@ -5,6 +5,7 @@ import unittest
 
 from groupcost.between import between, split_base
 from groupcost.cheapest import cheapest, cheapest_groups, cost_with, entry_of, least_cost
+from groupcost.examiner import answered, shown
 from groupcost.fairest import density, fair_steps, fairest, shows_fairest
 from groupcost.falling import break_of, falls, flat_row, rise_break, rises, two_break
 from groupcost.fractions import fraction, fraction_less, fraction_sum, fraction_times
@@ -13,8 +14,11 @@ from groupcost.masks import group_of, groups_in, hands_in, many_in, within
 from groupcost.means import all_orders, mean_row
 from groupcost.mixes import is_mix, mix_row, mix_size, mixed
 from groupcost.orders import by_order, raised
+from groupcost.papers import made_for, shows_bar, shows_best, shows_between, shows_cheapest, shows_common
 from groupcost.parting import common, fixed_hand, parting
 from groupcost.prices import best_base, break_prices, is_best, price_chain, price_order, weight_of, worth_at
+from groupcost.reading import Page, ask_of, number_in, read_page, table_named
+from groupcost.report import answer_text, judged, paper_text, read_answer, read_paper, report
 from groupcost.rings import is_ring, ring_groups, ring_of
 from groupcost.shares import core_of, full_groups, is_base, is_under, over, room_of, way_room
 from groupcost.tables import (
@@ -27,6 +31,10 @@ NOUGHTS = [0] * 8
 FLAT = [0, 4, -7, -3, 2, 6, -5, -1]
 BASE = [3, 4, 2]
 FAIR = [(3, 1), (3, 1), (3, 1)]
+ONES = [1, 1, 1]
+TEXT = "hands a b c\ntable t\nsteps 5 3 2\nask falls t\nask common t t\nask best t 1 1 1\ntable u\neach 1 a"
+PAGE = read_page(TEXT)
+ASK = ("fairest", THREE, ONES)
 
 # A kind is int, bool or None, a list of the one kind of what stands in it, or a tuple of the kinds of its places.
 ROW = [int]
@@ -34,6 +42,7 @@ PAIR = (int, int)
 TRIPLE = (int, int, int)
 STEPS = [(int, PAIR)]
 MIX = [(ROW, int)]
+ASK_KINDS = (str, ROW, ROW)
 
 CALLS = {
     hands_in: [([0], ROW), ([5], ROW), ([63], ROW)],
@@ -134,6 +143,48 @@ CALLS = {
     mixed: [([THREE, BASE], MIX), ([THREE, [3, 3, 3]], MIX), ([[0, 5], [5]], MIX), ([NOUGHTS, [0, 0, 0]], MIX)],
     all_orders: [([1], [ROW]), ([3], [ROW]), ([6], [ROW])],
     mean_row: [([THREE], ROW), ([RISING], ROW), ([[0, 5]], ROW)],
+    shows_cheapest: [([THREE, [9, 9, 9], 7, 9, BASE], bool), ([THREE, [9, 9, 9], 7, 8, BASE], bool)],
+    shows_best: [([THREE, ONES, 9, BASE], bool), ([THREE, ONES, 8, BASE], bool)],
+    shows_common: [([THREE, THREE, 9, BASE, 7], bool), ([THREE, THREE, 9, BASE, 3], bool)],
+    shows_between: [([NOUGHTS, THREE, BASE], bool), ([THREE, NOUGHTS, BASE], bool)],
+    shows_bar: [([NOUGHTS, THREE, 3], bool), ([THREE, NOUGHTS, 3], bool)],
+    made_for: [
+        ([3, None], bool), ([3, ("dues", BASE)], bool), ([2, ("dues", BASE)], bool),
+        ([3, ("mix", [([0, 1, 2], 1)])], bool), ([3, ("steps", [(8, (1, 1))])], bool),
+    ],
+    answered: [
+        ([("falls", THREE)], (str, None)), ([("falls", RISING)], (str, (str, int, int))),
+        ([("cheapest", THREE, [4, 1, -2])], (PAIR, (str, ROW))), ([("best", THREE, ONES)], (int, (str, ROW))),
+        ([("base", THREE, BASE)], (str, (str, MIX))), ([("base", THREE, [9, 9, 9])], (str, (str, int))),
+        ([("base", THREE, [0, 0, 0])], (str, (str,))), ([("common", THREE, FLAT)], (int, (str, ROW, int))),
+        ([("between", RISING, THREE)], (str, (str, ROW))), ([("between", RISING, FLAT)], (str, (str, int))),
+        ([ASK], ([PAIR], (str, STEPS))),
+    ],
+    shown: [
+        ([("falls", THREE), "yes", None], bool), ([("base", THREE, BASE), "yes", ("mix", [([0, 1, 2], 1)])], bool),
+        ([ASK, FAIR, ("steps", [(7, (3, 1))])], bool), ([ASK, FAIR, None], bool),
+        ([("best", THREE, ONES), 9, ("base", BASE)], bool), ([("falls", THREE), "no", ("break", 1, 2)], bool),
+    ],
+    read_page: [([TEXT], Page), (["hands a"], Page)],
+    number_in: [(["-12", 200], int), (["0", 1], int), (["01", 200], None)],
+    table_named: [([PAGE, "t"], ROW), ([PAGE, "u"], ROW), ([PAGE, "v"], None)],
+    ask_of: [
+        ([PAGE, "falls t"], (str, ROW)), ([PAGE, "common t t"], ASK_KINDS), ([PAGE, "best t 1 1 1"], ASK_KINDS),
+        ([PAGE, "between u t"], ASK_KINDS), ([PAGE, "fairest t 1 2 3"], ASK_KINDS),
+    ],
+    answer_text: [([PAGE, ASK, FAIR], str), ([PAGE, ("falls", THREE), "yes"], str)],
+    paper_text: [([PAGE, None], str), ([PAGE, ("dues", BASE)], str), ([PAGE, ("mix", [([0, 1, 2], 1)])], str)],
+    read_answer: [
+        ([PAGE, ASK, "3/1 3/1 3/1"], [PAIR]), ([PAGE, ("falls", THREE), "yes"], str),
+        ([PAGE, ("best", THREE, ONES), "9"], int), ([PAGE, ("cheapest", THREE, ONES), "{ a } 5"], PAIR),
+    ],
+    read_paper: [
+        ([PAGE, "none"], None), ([PAGE, "sum"], (str,)), ([PAGE, "dues 1 1 1"], (str, ROW)),
+        ([PAGE, "mix ( a b c ) 1 ( a b c ) 1"], (str, MIX)), ([PAGE, "both 1 1 1 { a }"], (str, ROW, int)),
+        ([PAGE, "steps { a } 1/1 { a } 1/1"], (str, STEPS)), ([PAGE, "break { a } { }"], (str, int, int)),
+    ],
+    report: [([TEXT], str), (["hands a"], str)],
+    judged: [([TEXT, "falls t > yes ; none"], [str]), ([TEXT, ""], [str]), ([TEXT, report(TEXT)], [str])],
 }
 
 
@@ -148,9 +199,15 @@ def fits(kind, value):
     return type(value) is kind
 
 
+def said_by(value):
+    """What a page says, as a tuple that can be walked and compared; any other value as it is."""
+    return (value.names, value.tables, value.asks) if isinstance(value, Page) else value
+
+
 def lists_in(value):
     """All lists of a value, itself and those within it."""
     found = [value] if isinstance(value, list) else []
+    value = said_by(value)
     if isinstance(value, (list, tuple)):
         for part in value:
             found += lists_in(part)
@@ -181,7 +238,7 @@ class OwnTest(unittest.TestCase):
         def check(function, handed, kind):
             before = copy.deepcopy(handed)
             function(*handed)
-            self.assertEqual(handed, before)
+            self.assertEqual(list(map(said_by, handed)), list(map(said_by, before)))
 
         self.for_each_call(check)
 
@@ -199,8 +256,8 @@ class OwnTest(unittest.TestCase):
             told = function(*handed)
             first = copy.deepcopy(told)
             scramble(told)
-            self.assertEqual(handed, before)
-            self.assertEqual(function(*handed), first)
+            self.assertEqual(list(map(said_by, handed)), list(map(said_by, before)))
+            self.assertEqual(said_by(function(*handed)), said_by(first))
 
         self.for_each_call(check)
 
@@ -209,7 +266,7 @@ class OwnTest(unittest.TestCase):
             told = function(*handed)
             first = copy.deepcopy(told)
             scramble(handed)
-            self.assertEqual(told, first)
+            self.assertEqual(said_by(told), said_by(first))
 
         self.for_each_call(check)
 
